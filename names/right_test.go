@@ -225,7 +225,7 @@ func TestRightAsksEachRule(t *testing.T) {
 	}
 }
 
-// One Dev, of which each domain of the whole net has a Vtep, for it is the other one's side that is turned here: on either side of a pair.
+// What peers must be, turned on either side of a pair.
 func TestRightAsksBothSidesOfPeers(t *testing.T) {
 	pair := func() api.Net {
 		return api.Net{
